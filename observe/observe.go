@@ -46,7 +46,7 @@ func IsRight(o api.Observance) bool {
 		}
 	}
 	if !o.Has {
-		return isNothing(o.Rule)
+		return IsNothing(o.Rule)
 	}
 	return recur.Check(o.Rule) == api.OK && isPlain(o.Rule)
 }
@@ -60,8 +60,8 @@ func isPlain(r api.Recur) bool {
 		len(r.Days)+len(r.MonthDay) > 0
 }
 
-// isNothing tells whether a rule is all zero values.
-func isNothing(r api.Recur) bool {
+// IsNothing tells whether a rule is all zero values, as it has to be where there is none.
+func IsNothing(r api.Recur) bool {
 	return r.Freq == 0 && r.Interval == 0 && r.Count == 0 && !r.Until && r.UntilAt == 0 && !r.Utc && r.Wkst == 0 &&
 		len(r.Second) == 0 && len(r.Minute) == 0 && len(r.Hour) == 0 && len(r.Days) == 0 && len(r.MonthDay) == 0 &&
 		len(r.YearDay) == 0 && len(r.WeekNo) == 0 && len(r.Month) == 0 && len(r.SetPos) == 0
