@@ -26,6 +26,9 @@ Link Berlin Oslo
 Zone Bad 0 - /A
 Zone Late 0 - A 9995
 0 - B
+Rule L 1990 only - Jan 1 0 0 X
+Rule L 2003 only - Jan 1 0 1 -
+Zone Soon 0 L %s
 `
 
 func read(t *testing.T) api.Source {
@@ -79,6 +82,8 @@ func TestUtc(t *testing.T) {
 		{daily, at(2026, 3, 1, 0, 0), at(2026, 3, 31, 0, 0), "20260327T0130 20260328T0130 20260329T0130 20260330T0030"},
 		{daily, at(2026, 3, 28, 1, 30), at(2026, 3, 30, 0, 30), "20260328T0130 20260329T0130 20260330T0030"},
 		{daily, at(2026, 3, 28, 1, 31), at(2026, 3, 30, 0, 29), "20260329T0130"},
+		// The gap's end is of the time behind it.
+		{api.Event{Start: at(2026, 3, 29, 3, 0), Dates: []int{at(2026, 3, 29, 3, 0) - 1}}, at(2026, 3, 29, 0, 0), at(2026, 3, 30, 0, 0), "20260329T0100 20260329T0159"},
 		// On October 25 there are two: the first one counts.
 		{daily, at(2026, 10, 24, 0, 0), at(2026, 10, 27, 0, 0), "20261024T0030 20261025T0030 20261026T0130"},
 		{with(func(x *api.Event) { x.Not = []int{start, start + 2*api.Day, start + 1} }), at(2026, 3, 1, 0, 0), at(2026, 3, 31, 0, 0), "20260328T0130 20260330T0030"},
@@ -160,6 +165,9 @@ func TestFaultsInOrder(t *testing.T) {
 		{"Bad", daily, first, last + 1, -1, api.ErrYear},
 		{"Bad", daily, math.MinInt, math.MaxInt, -1, api.ErrYear},
 		{"Bad", daily, 0, 1, -1, api.ErrFormat},
+		// A name that is none, met two years behind the window's end.
+		{"Soon", api.Event{Dates: []int{at(2000, 1, 1, 0, 0)}}, 0, at(2000, 12, 31, 23, 59), 0, api.OK},
+		{"Soon", api.Event{Dates: []int{at(2000, 1, 1, 0, 0)}}, 0, at(2001, 1, 1, 0, 0), 0, api.ErrFormat},
 		{"Late", daily, 0, 1, -1, api.ErrArg},
 		{"Late", daily, 0, 1, api.MaxFuel + 1, api.ErrArg},
 		{"Late", daily, 0, 1, 2, api.ErrFuel},

@@ -43,6 +43,8 @@ func TestSplitRefuses(t *testing.T) {
 		long + "a":      api.ErrLen,
 		long + "\x00":   api.ErrLen,
 		long + "\"":     api.ErrLen,
+		"\x00":          api.ErrField,
+		"\n":            api.ErrField,
 		"a\x00b":        api.ErrField,
 		"a\nb":          api.ErrField,
 		"a\n":           api.ErrField,

@@ -2,6 +2,7 @@ package observe
 
 import (
 	"math"
+	"slices"
 	"strings"
 	"testing"
 	"time"
@@ -31,10 +32,11 @@ func TestWhatIsWrong(t *testing.T) {
 		func(v *api.Vtz) { v.Id = "" },
 		func(v *api.Vtz) { v.Id = strings.Repeat("x", 201) },
 		func(v *api.Vtz) { v.Id = "a\nb" },
+		func(v *api.Vtz) { v.Id = "\nab" },
 		func(v *api.Vtz) { v.Id = "a\x00b" },
 		func(v *api.Vtz) { v.Id = "a\x7f" },
 		func(v *api.Vtz) { v.Obs = nil },
-		func(v *api.Vtz) { v.Obs = make([]api.Observance, 2001) },
+		func(v *api.Vtz) { v.Obs = slices.Repeat(v.Obs[:1], 2001) },
 		func(v *api.Vtz) { v.Obs[0].Start = before },
 		func(v *api.Vtz) { v.Obs[0].Start = behind },
 		func(v *api.Vtz) { v.Obs[0].Start = math.MinInt },
@@ -84,8 +86,14 @@ func TestWhatIsRight(t *testing.T) {
 	rule := func(change func(r *api.Recur)) func(v *api.Vtz) {
 		return func(v *api.Vtz) { change(&v.Obs[1].Rule) }
 	}
+	first := int(time.Date(1, 1, 1, 0, 0, 0, 0, time.UTC).Unix())
+	last := int(time.Date(9999, 12, 31, 23, 59, 59, 0, time.UTC).Unix())
 	for k, change := range []func(v *api.Vtz){
 		func(v *api.Vtz) {},
+		func(v *api.Vtz) { v.Id, v.Obs = "Z", v.Obs[:1] },
+		func(v *api.Vtz) { v.Obs[0].Start, v.Obs[0].Dates = last, []int{first, last} },
+		func(v *api.Vtz) { v.Obs[0].Start = first },
+		func(v *api.Vtz) { v.Obs[0].Name = strings.Repeat("x", 40) },
 		func(v *api.Vtz) { v.Id = strings.Repeat("é", 100) },
 		func(v *api.Vtz) { v.Id = "a\t;,\\" },
 		func(v *api.Vtz) { v.Obs[0].From, v.Obs[0].To = 86399, -86399 },

@@ -176,6 +176,34 @@ func TestWhatGoesWithAFrequency(t *testing.T) {
 	}
 }
 
+func TestTheYearsOfAnEnd(t *testing.T) {
+	for _, x := range []int{int(time.Date(1, 1, 1, 0, 0, 0, 0, time.UTC).Unix()), int(time.Date(9999, 12, 31, 23, 59, 59, 0, time.UTC).Unix())} {
+		if e := Check(with(api.Daily, func(r *api.Recur) { r.Until, r.UntilAt = true, x })); e != api.OK {
+			t.Error(x, e)
+		}
+	}
+}
+
+func TestPlacesGoWithAnyOtherList(t *testing.T) {
+	for k, change := range []func(r *api.Recur){
+		func(r *api.Recur) { r.Second = []int{0} },
+		func(r *api.Recur) { r.Minute = []int{0} },
+		func(r *api.Recur) { r.Hour = []int{0} },
+		func(r *api.Recur) { r.Days = []api.ByDay{{}} },
+		func(r *api.Recur) { r.MonthDay = []int{1} },
+		func(r *api.Recur) { r.YearDay = []int{1} },
+		func(r *api.Recur) { r.WeekNo = []int{1} },
+		func(r *api.Recur) { r.Month = []int{1} },
+		func(r *api.Recur) { r.Month, r.Hour, r.MonthDay = []int{1}, []int{0}, []int{1} },
+	} {
+		r := with(api.Yearly, change)
+		r.SetPos = []int{1}
+		if e := Check(r); e != api.OK {
+			t.Error(k, e)
+		}
+	}
+}
+
 // some is a rule that is right, mostly.
 func some(r *rand.Rand) api.Recur {
 	x := api.Recur{Freq: 1 + r.Intn(7), Interval: 1 + r.Intn(3), Wkst: r.Intn(7)}

@@ -148,6 +148,8 @@ func TestCheck(t *testing.T) {
 		{bad(func(s *api.Source) { s.Zones = make([]api.Zone, api.MaxZones+1) }), api.ErrLen},
 		{bad(func(s *api.Source) { s.Links = make([]api.Link, api.MaxZones+1) }), api.ErrLen},
 		{bad(func(s *api.Source) { s.Links = make([]api.Link, api.MaxZones) }), api.ErrLink},
+		{bad(func(s *api.Source) { s.Zones = make([]api.Zone, api.MaxZones) }), api.ErrZone},
+		{bad(func(s *api.Source) { s.Rules = make([]api.Rule, api.MaxRules) }), api.ErrRule},
 	} {
 		if e := Check(c.s); e != c.want {
 			t.Error(k, e)

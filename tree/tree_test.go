@@ -187,6 +187,9 @@ func TestKids(t *testing.T) {
 			t.Error(k, got)
 		}
 	}
+	if got := Kids([]api.Comp{comp("A", 1), comp("B", 2)}, 1); len(got) != 0 {
+		t.Error(got)
+	}
 	// What is of one of its own is not looked at, names and lines are not either; it may be no right tree.
 	if got := Kids([]api.Comp{comp("", 3), comp("", 1), comp("", -7), comp("", 0), comp("", 99)}, 0); !slices.Equal(got, []int{1, 3}) {
 		t.Error(got)

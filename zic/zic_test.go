@@ -27,6 +27,11 @@ Zone Fixed 5:30 - IST
 Zone Bad 0 - /A
 Zone Late 0 - A 9999
 0 - B
+Rule L 1990 only - Jan 1 0 0 X
+Rule L 2003 only - Jan 1 0 1 -
+Zone Soon 0 L %s
+Zone Sooner 0 L %s 2010
+0 - A
 `
 
 func read(t *testing.T) api.Source {
@@ -80,6 +85,10 @@ func TestFaultsInOrder(t *testing.T) {
 		{s, "Bad", math.MaxInt, api.ErrYear},
 		{s, "Bad", first, api.ErrFormat},
 		{s, "Late", first, api.ErrYear},
+		// A name that is none, met in the last year that is looked up to: two behind the time's own, or the one that the zone needs.
+		{s, "Soon", at(2000, 12, 31, 23, 59), api.OK},
+		{s, "Soon", at(2001, 1, 1, 0, 0), api.ErrFormat},
+		{s, "Sooner", at(1950, 1, 1, 0, 0), api.ErrFormat},
 		{s, "Fixed", first, api.OK},
 		{s, "Fixed", last, api.OK},
 	} {
