@@ -72,6 +72,8 @@ func TestOf(t *testing.T) {
 		"Zone Z 0 - A 1999\n0 Y X%sT 2000\n0 - B":                                "0s 0s A; 1999-01-01T00:00:00 0s 0s XWT; 2000-01-01T00:00:00 0s 0s B",
 		"Zone Z 0 Y X%sT 2000 Jun\n0 Y U%sT 2000 Jul\n0 - B":                     "0s 0s XWT; 2000-03-01T00:00:00 1h0m0s 1h0m0s XST; 2000-05-31T23:00:00 1h0m0s 1h0m0s UST; 2000-06-30T23:00:00 0s 0s B",
 		"Zone Z 0 - A 2000 Jun\n0 1 B 2000 Oct 1 0:00\n0 Y X%sT 2000 Nov\n0 - C": "0s 0s A; 2000-06-01T00:00:00 1h0m0s 1h0m0s B; 2000-09-30T23:00:00 0s 0s XWT; 2000-11-01T00:00:00 0s 0s C",
+		// Each era has its own rules' onsets, also where a name comes again.
+		"Zone Z 0 Y X%sT 2000 Jun\n0 EU %s 2000 Aug\n0 Y U%sT": "0s 0s XWT; 2000-03-01T00:00:00 1h0m0s 1h0m0s XST; 2000-05-31T23:00:00 1h0m0s 1h0m0s S; 2000-07-31T23:00:00 1h0m0s 1h0m0s UST; 2000-09-30T23:00:00 0s 0s UWT; 2001-03-01T00:00:00 1h0m0s 1h0m0s UST; 2001-09-30T23:00:00 0s 0s UWT",
 		// The end hangs on what holds then: at 0:30 by the clock of the time ahead of the change it has not come yet.
 		"Zone Z 0 Y X%sT 2000 Mar 1 0:00\n0 - B":    "0s 0s XWT; 2000-03-01T00:00:00 0s 0s B",
 		"Zone Z 0 Y X%sT 2000 Mar 1 1:30\n0 - B":    "0s 0s XWT; 2000-03-01T00:00:00 1h0m0s 1h0m0s XST; 2000-03-01T00:30:00 0s 0s B",
@@ -148,6 +150,7 @@ func TestFaultsInOrder(t *testing.T) {
 		"Zone Z 0 - A 1990\n0 - B 1990\n0 - C":               api.ErrOrder,
 		"Zone Z 0 - A 1990\n0 - B 1989\n0 - C":               api.ErrOrder,
 		"Zone Z 0 - A 1990\n0 - B 1990 Jan 1 0:00:01\n0 - C": api.OK,
+		"Zone Z 0 - A 1990\n0 - B 1990\n0 - /C":              api.ErrOrder,
 		"Zone Z 0 - A 1990\n0 - B 1989\n0 - /C":              api.ErrOrder,
 		"Zone Z 0 - A 1990\n0 - /B 1989\n0 - C":              api.ErrFormat,
 		"Zone Z 0 - A 1990\n1 - B 1990 Jan 1 0:30\n0 - C":    api.ErrOrder,

@@ -210,6 +210,17 @@ func TestARuleIsLookedAtFarBack(t *testing.T) {
 	}
 }
 
+// What is looked at begins 15000 days ahead: a year that ends a second earlier is not gone through.
+func TestHowFarBackIsLooked(t *testing.T) {
+	o := berlinIs().Obs[0]
+	x := at(2000, 1, 1, 0, 0, 0) + 15000*api.Day - o.From
+	_, _, fewer := Onset(o, x)
+	_, _, more := Onset(o, x-1)
+	if fewer != 84 || more != 86 {
+		t.Error(fewer, more)
+	}
+}
+
 func TestUntilAtTheEndsOfTheYears(t *testing.T) {
 	r := march()
 	r.Until, r.Utc, r.UntilAt = true, true, at(9999, 12, 31, 23, 59, 59)
